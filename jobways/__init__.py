@@ -1,0 +1,1 @@
+"""Pipelines: jobs told in a text, their instances, and runs of them."""
