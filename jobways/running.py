@@ -11,10 +11,14 @@ FAILED_SOFT = 5
 
 
 class Run:
-    """A run that is just begun: all wait, nothing has been looked at yet."""
+    """A run that is just begun: all wait, nothing has been looked at yet.
 
-    def __init__(self, pipeline, flags):
+    watched are the numbers of the instances that the run is about, rising; all others wait for ever.
+    """
+
+    def __init__(self, pipeline, flags, watched):
         self.pipeline = pipeline
+        self.watched = watched
         self.flags_up = names_up(pipeline.flags, flags)
         self.stands = [WAITS for instance in pipeline.instances]
 
@@ -37,7 +41,7 @@ class Run:
 
     def look_at_due(self):
         """Look at each instance that is due once; give those that were, rising."""
-        due = [number for number in range(len(self.stands)) if self.is_due(number)]
+        due = [number for number in self.watched if self.is_due(number)]
         for number in due:
             self.stands[number] = RUNS if self.condition_holds(number) else LEFT_OUT
         return due
@@ -51,6 +55,28 @@ class Run:
             due = self.look_at_due()
         return sorted(moved)
 
+    def end(self, number, passed):
+        """Let an instance that runs end; what follows from it is not looked at yet."""
+        if passed:
+            self.stands[number] = PASSED
+        elif self.pipeline.instances[number].job.soft:
+            self.stands[number] = FAILED_SOFT
+        else:
+            self.stands[number] = FAILED
+
+    def running(self):
+        return [number for number in self.watched if self.stands[number] == RUNS]
+
+    def go_to_end(self, failures):
+        """Let all that run end, until none runs; those fail whose bit is 1 in failures."""
+        self.move_on()
+        running = self.running()
+        while len(running) > 0:
+            for number in running:
+                self.end(number, not has_bit(failures, number))
+            self.move_on()
+            running = self.running()
+
     def conclusion(self):
         if any([stand in (WAITS, RUNS) for stand in self.stands]):
             return 0
@@ -62,7 +88,19 @@ class Run:
         left_out = [number for number in moved if self.stands[number] == LEFT_OUT]
         return [self.conclusion(), len(begun)] + begun + left_out
 
+    def report(self):
+        return [self.conclusion()] + self.stands
+
+
+def whole_run(pipeline, flags):
+    """Give a run that is about all instances."""
+    return Run(pipeline, flags, list(range(len(pipeline.instances))))
+
+
+def has_bit(number, place):
+    return (number >> place) & 1 == 1
+
 
 def names_up(names, flags):
     """Give the names of the flags whose bit is 1."""
-    return [name for place, name in enumerate(names) if (flags >> place) & 1 == 1]
+    return [name for place, name in enumerate(names) if has_bit(flags, place)]

@@ -1,20 +1,29 @@
 """The calls on one house: a pipeline, and perhaps a run of it."""
 
+from jobways.chances import first_chance
 from jobways.pipelines import Pipeline, label_of
 from jobways.reading import drafted
-from jobways.running import Run
+from jobways.running import RUNS, whole_run
 from jobways.writing import pipeline_text
 
 FAULTY_TEXT = -1
 NO_INSTANCE = -2
 TOO_HIGH = -3
+NO_RUN = -4
+NOT_RUNNING = -5
+TOO_MANY_ABOVE = -6
+MOST_ABOVE = 5
 
 READ = 0
 WRITTEN = 1
 LABEL = 2
 NEEDS = 3
+BEGIN = 4
+ENDS = 5
+STAND = 6
+FORECAST = 7
 # How many whole numbers stand behind a call's own number, by that number; read has a row instead.
-NUMBERS_BEHIND = {1: 0, 2: 1, 3: 1, 4: 1}
+NUMBERS_BEHIND = {1: 0, 2: 1, 3: 1, 4: 1, 5: 2, 6: 0, 7: 2, 8: 1}
 
 
 class House:
@@ -26,6 +35,9 @@ class House:
 
     def has_instance(self, number):
         return number < len(self.pipeline.instances)
+
+    def has_flags(self, flags):
+        return flags >> len(self.pipeline.flags) == 0
 
     def read(self, text):
         draft = drafted(text)
@@ -49,10 +61,42 @@ class House:
         return [0] + self.pipeline.needed[number]
 
     def begin(self, flags):
-        if flags >> len(self.pipeline.flags) > 0:
+        if not self.has_flags(flags):
             return [TOO_HIGH]
-        self.run = Run(self.pipeline, flags)
+        self.run = whole_run(self.pipeline, flags)
         return self.run.news(self.run.move_on())
+
+    def ends(self, number, passed):
+        if self.run is None:
+            return [NO_RUN]
+        if not self.has_instance(number):
+            return [NO_INSTANCE]
+        if self.run.stands[number] != RUNS:
+            return [NOT_RUNNING]
+        self.run.end(number, passed != 0)
+        return self.run.news(self.run.move_on())
+
+    def stand(self):
+        if self.run is None:
+            return [NO_RUN]
+        return self.run.report()
+
+    def forecast(self, flags, failures):
+        if not self.has_flags(flags) or failures >> len(self.pipeline.instances) > 0:
+            return [TOO_HIGH]
+        run = whole_run(self.pipeline, flags)
+        run.go_to_end(failures)
+        return run.report()
+
+    def ever(self, number):
+        if not self.has_instance(number):
+            return [NO_INSTANCE]
+        if len(self.pipeline.above[number]) > MOST_ABOVE:
+            return [TOO_MANY_ABOVE]
+        chance = first_chance(self.pipeline, number)
+        if chance is None:
+            return [0]
+        return [1] + list(chance)
 
 
 def bytes_of(text):
@@ -67,7 +111,15 @@ def answer_to(house, call, numbers):
         return house.label(numbers[0])
     if call == NEEDS:
         return house.needs(numbers[0])
-    return house.begin(numbers[0])
+    if call == BEGIN:
+        return house.begin(numbers[0])
+    if call == ENDS:
+        return house.ends(numbers[0], numbers[1])
+    if call == STAND:
+        return house.stand()
+    if call == FORECAST:
+        return house.forecast(numbers[0], numbers[1])
+    return house.ever(numbers[0])
 
 
 def answers(calls):

@@ -3,6 +3,7 @@
 from jobways.runs import answers
 
 WRITTEN = [1]
+STAND = [6]
 
 
 def read(text):
@@ -21,6 +22,18 @@ def needs(instance):
 
 def begin(flags):
     return [4, flags]
+
+
+def ends(instance, passed):
+    return [5, instance, passed]
+
+
+def forecast(flags, failures):
+    return [7, flags, failures]
+
+
+def ever(instance):
+    return [8, instance]
 
 
 def parted(answered):
@@ -73,7 +86,12 @@ def needs_after(text):
     return [row[1:] for row in rows]
 
 
+def after(text, *calls):
+    """The answers to calls behind a read that is taken."""
+    rows = ask(read(text), *calls)
+    assert rows[0][0] == 0, f"refused: {rows[0]}"
+    return rows[1:]
+
+
 def begin_after(text, flags=0):
-    taken, answer = ask(read(text), begin(flags))
-    assert taken[0] == 0, f"refused: {taken}"
-    return answer
+    return after(text, begin(flags))[0]

@@ -9,7 +9,7 @@ import random
 import re
 import unittest
 
-from tests.helper import ask, begin, label, needs, read, WRITTEN
+from tests.helper import ask, begin, ends, ever, forecast, label, needs, read, STAND, WRITTEN
 
 NAME = r"[a-z][a-z0-9-]{0,11}"
 VALUE = r"[a-z0-9.-]{1,12}"
@@ -240,9 +240,12 @@ class Model:
                 found.append(place)
         return found
 
-    def begin(self, flags):
-        if flags >= 2 ** len(self.flags):
-            return [-3]
+    def above(self, number):
+        needed = self.needed(number)
+        return set(needed).union(*[self.above(other) for other in needed])
+
+    def stands(self, flags, fate):
+        """How all stand when those that run stand at fate(number): 1 if they still run, else as they ended."""
         states = {}
 
         def value(number, tree):
@@ -257,22 +260,82 @@ class Model:
                 return flags // 2 ** self.flags.index(tree[1]) % 2 == 1
             if "=" in word:
                 return tuple(word.split("=")) in self.instances[number][1].items()
-            # Nothing has ended yet but what was left out.
-            return {"ok": not self.needed(number), "bad": False, "always": True}[word]
+            if word == "ok":
+                return {state(other) for other in self.needed(number)} <= {2, 5}
+            if word == "bad":
+                return 3 in {state(other) for other in self.above(number)}
+            return True
 
         def state(number):
             if number not in states:
-                needed = [state(other) for other in self.needed(number)]
                 trees = self.instances[number][0].told["when"] or [("ok",)]
-                if set(needed) <= {"out"}:
-                    states[number] = "runs" if value(number, trees[0]) else "out"
+                if {state(other) for other in self.needed(number)} & {0, 1}:
+                    states[number] = 0
                 else:
-                    states[number] = "waits"
+                    states[number] = fate(number) if value(number, trees[0]) else 4
             return states[number]
 
-        every = range(len(self.instances))
-        runs, out = ([number for number in every if state(number) == word] for word in ("runs", "out"))
-        return [1 if len(out) == len(self.instances) else 0, len(runs)] + runs + out
+        return [state(number) for number in range(len(self.instances))]
+
+    def failed(self, number):
+        return 5 if self.instances[number][0].told["soft"] else 3
+
+    def is_too_high(self, flags, failures=0):
+        return flags >= 2 ** len(self.flags) or failures >= 2 ** len(self.instances)
+
+    def begin(self, flags):
+        if self.is_too_high(flags):
+            return [-3]
+        return news([0] * len(self.instances), self.stands(flags, lambda number: 1))
+
+    def forecast(self, flags, failures):
+        if self.is_too_high(flags, failures):
+            return [-3]
+        stands = self.stands(flags, lambda number: self.failed(number) if failures // 2 ** number % 2 else 2)
+        return [conclusion(stands)] + stands
+
+    def ever(self, number):
+        if number >= len(self.instances):
+            return [-2]
+        above = sorted(self.above(number))
+        if len(above) > 5:
+            return [-6]
+        failures = [sum(2 ** place for place in some) for count in range(6) for some in itertools.combinations(above, count)]
+        found = [[1, some, up] for some in failures for up in range(2 ** len(self.flags))
+                 if self.forecast(up, some)[1 + number] != 4]
+        return min(found, default=[0])
+
+
+class ModelRun:
+    """A run that is reckoned anew from all that has ended so far, at each call."""
+
+    def __init__(self, model, flags):
+        self.model, self.flags, self.ended = model, flags, {}
+
+    def stands(self):
+        return self.model.stands(self.flags, lambda number: self.ended.get(number, 1))
+
+    def ends(self, number, passed):
+        before = self.stands()
+        if number >= len(before):
+            return [-2]
+        if before[number] != 1:
+            return [-5]
+        self.ended[number] = 2 if passed else self.model.failed(number)
+        return news(before, self.stands())
+
+    def stand(self):
+        return [conclusion(self.stands())] + self.stands()
+
+
+def conclusion(stands):
+    return 0 if {0, 1} & set(stands) else 2 if 3 in stands else 1
+
+
+def news(before, stands):
+    moved = [number for number, stand in enumerate(stands) if before[number] == 0 != stand]
+    begun = [number for number in moved if stands[number] == 1]
+    return [conclusion(stands), len(begun)] + begun + [number for number in moved if stands[number] == 4]
 
 
 class Maker:
@@ -320,6 +383,25 @@ class Maker:
         jobs = [self.job(name, names[:place]) for place, name in enumerate(names)]
         self.random.shuffle(jobs)
         return "\n".join(self.pick("", " ", "  ") + line for job in jobs for line in job) + self.pick("", "\n")
+
+    def deep_text(self):
+        """Many jobs with few instances and short conditions, so that failures bring others on."""
+        names = list("abcdefg")[:self.random.randint(3, 7)]
+        self.random.shuffle(names)
+        jobs = []
+        for place, name in enumerate(names):
+            lines = [f"job {name}"]
+            if self.random.random() < 0.15:
+                lines.append("axis x 1 2")
+            if place > 0:
+                lines.append(f"{self.pick('needs', 'beside')} {' '.join(self.some(names[:place], 1, 2))}")
+            lines.append("when " + self.pick("ok", "always", "bad", "bad", "not ok", "bad and not ok", "not bad and not ok",
+                                             "ok or bad and flag p", "bad and flag q", "not flag p and ok", "x=1 or not ok"))
+            if self.random.random() < 0.2:
+                lines.append("soft")
+            jobs.append(lines)
+        self.random.shuffle(jobs)
+        return "\n".join(line for job in jobs for line in job)
 
     def spoiled(self, text):
         """The text with a few small changes, by which it has a fault more often than not."""
@@ -381,6 +463,79 @@ class AgainstModel(unittest.TestCase):
             lines = [line for job in jobs for line in job if not line.startswith("when") or maker.pick(True, False)]
             found.append(self.compare("\n".join(lines[:maker.pick(10, 20, 99)])))
         self.assertEqual({0, 5, 10} - set(found), set())
+
+
+class RunsAgainstModel(unittest.TestCase):
+    """Texts without a fault; whole runs in made-up orders, with calls between that are refused or change nothing."""
+
+    def setUp(self):
+        self.random = random.Random(4)
+        self.maker = Maker(5)
+
+    def texts(self, count):
+        while count > 0:
+            text = self.maker.text() if count % 2 else self.maker.deep_text()
+            model = Model(text)
+            if not model.fault:
+                count -= 1
+                yield text, model
+
+    def flags(self, model):
+        return self.random.randrange(2 ** len(model.flags))
+
+    def high(self, count):
+        return self.random.choice([2 ** count, 2 ** count + 1, 2 ** 32 - 1])
+
+    def step(self, run):
+        """A call on a run, and its answer; more often than not an instance that runs ends."""
+        stands = run.stands()
+        model = run.model
+        running = [number for number, stand in enumerate(stands) if stand == 1]
+        form = self.random.random()
+        if form < 0.6 and running:
+            number, passed = self.random.choice(running), self.random.choice([0, 0, 1, 1, 2, 2 ** 32 - 1])
+            return ends(number, passed), run.ends(number, passed)
+        if form < 0.7:
+            number = self.random.choice([self.random.randrange(len(stands) + 1), 2 ** 32 - 1])
+            return ends(number, 1), run.ends(number, 1)
+        if form < 0.75:
+            flags, failures = self.flags(model), self.random.randrange(2 ** len(stands))
+            return forecast(flags, failures), model.forecast(flags, failures)
+        if form < 0.8:
+            return begin(self.high(len(model.flags))), [-3]
+        if form < 0.85:
+            return read("job"), [-1, 1, 3]
+        return STAND, run.stand()
+
+    def test_whole_runs(self):
+        for text, model in self.texts(400):
+            rows = [(read(text), model.read()), (STAND, [-4]), (ends(0, 1), [-4]), (ends(2 ** 32 - 1, 1), [-4])]
+            for count in (1, 2):
+                flags = self.flags(model)
+                run = ModelRun(model, flags)
+                rows += [(begin(flags), model.begin(flags))] + [self.step(run) for number in range(26)]
+            self.assertEqual(ask(*[call for call, answer in rows]), [answer for call, answer in rows], (text, rows))
+
+    def test_forecasts(self):
+        for text, model in self.texts(300):
+            count = len(model.instances)
+            asked = [(self.flags(model), self.random.randrange(2 ** count)) for number in range(12)]
+            asked += [(0, 0), (0, 2 ** count - 1), (0, self.high(count)), (self.high(len(model.flags)), 0)]
+            rows = ask(read(text), *[forecast(flags, failures) for flags, failures in asked])[1:]
+            self.assertEqual(rows, [model.forecast(flags, failures) for flags, failures in asked], (text, asked))
+
+    def test_ever(self):
+        found = []
+        for text, model in self.texts(400):
+            numbers = [self.random.randrange(len(model.instances)) for number in range(2) if model.instances]
+            numbers.append(self.random.choice([len(model.instances), 0, 2 ** 32 - 1]))
+            rows = ask(read(text), *[ever(number) for number in numbers])[1:]
+            self.assertEqual(rows, [model.ever(number) for number in numbers], (text, numbers))
+            found += rows
+        for form in ([0], [-2], [-6], [1, 0, 0]):
+            self.assertIn(form, found)
+        self.assertGreater(len([row for row in found if row[0] == 1 and row[1] > 0]), 40)
+        self.assertGreater(len([row for row in found if row[0] == 1 and row[2] > 0]), 40)
 
 
 if __name__ == "__main__":

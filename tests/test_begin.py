@@ -4,7 +4,7 @@ import unittest
 
 from jobways.pipelines import Pipeline
 from jobways.reading import drafted
-from jobways.running import Run
+from jobways.running import whole_run
 from jobways.runs import House
 from tests.helper import ask, begin, begin_after, read, read_one
 
@@ -20,7 +20,7 @@ def run_of(text, stands, flags=0):
     """A run whose instances stand as told."""
     draft = drafted(list(text.encode()))
     assert draft.fault == 0
-    run = Run(Pipeline(draft.jobs, draft.flags), flags)
+    run = whole_run(Pipeline(draft.jobs, draft.flags), flags)
     run.stands = list(stands)
     return run
 

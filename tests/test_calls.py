@@ -1,9 +1,10 @@
 """answers: how calls and answers are laid out, and that nothing is changed or kept."""
 
+import itertools
 import unittest
 
 from jobways.runs import answers
-from tests.helper import ask, begin, label, needs, read, WRITTEN
+from tests.helper import ask, begin, ends, ever, forecast, label, needs, read, STAND, WRITTEN
 
 TEXT = "job a\n  axis x 1 2\njob b\n  needs a\n  when flag f\n"
 
@@ -22,6 +23,11 @@ class Layout(unittest.TestCase):
         self.assertEqual(answers([3, 0]), [1, -2])
         self.assertEqual(answers([4, 0]), [2, 1, 0])
         self.assertEqual(answers([4, 1]), [1, -3])
+        self.assertEqual(answers([5, 0, 1]), [1, -4])
+        self.assertEqual(answers([6]), [1, -4])
+        self.assertEqual(answers([7, 0, 0]), [1, 1])
+        self.assertEqual(answers([7, 0, 1]), [1, -3])
+        self.assertEqual(answers([8, 0]), [1, -2])
         self.assertEqual(answers([0, 0]), [4, 0, 0, 0, 0])
         self.assertEqual(answers([0, 1, 120]), [3, -1, 1, 2])
 
@@ -41,6 +47,38 @@ class Layout(unittest.TestCase):
             [0, 1, 1, 0], [0, ord("c")], [-2], [0, 1, 0], [-3], [0] + list(b"job c\n"),
         ])
 
+    def test_all_nine_calls_in_one_list(self):
+        rows = ask(ever(0), forecast(0, 0), STAND, ends(0, 1), begin(0), STAND, read(TEXT), STAND, WRITTEN, label(2), needs(2),
+                   ever(2), forecast(1, 2), begin(1), ends(1, 9), STAND, forecast(2, 0), read("x"), ends(0, 3), ends(2, 0),
+                   ends(2, 0), ends(3, 0), STAND, begin(0), ends(0, 0), STAND, ever(1))
+        self.assertEqual(rows, [
+            [-2], [1], [-4], [-4], [1, 0], [1], [0, 2, 3, 1], [-4], [0] + list(TEXT.encode()), [0, ord("b")], [0, 0, 1],
+            [1, 0, 1], [2, 2, 3, 2], [0, 2, 0, 1], [0, 0], [0, 1, 2, 0], [-3], [-1, 1, 2], [0, 1, 2], [2, 0],
+            [-5], [-2], [2, 2, 2, 3], [0, 2, 0, 1], [0, 0], [0, 3, 1, 0], [1, 0, 0],
+        ])
+
+    def test_nine_calls_in_other_orders(self):
+        text = "job a\njob b\nneeds a\nwhen bad\n"
+        calls = {"read": read(text), "written": WRITTEN, "label": label(1), "needs": needs(1), "begin": begin(0),
+                 "ends": ends(0, 0), "stand": STAND, "forecast": forecast(0, 1), "ever": ever(1)}
+        read_told = {"written": [0] + list(b"job a\njob b\n  needs a\n  when bad\n"), "label": [0, ord("b")],
+                     "needs": [0, 0], "forecast": [2, 3, 2], "ever": [1, 1, 0]}
+        unread = {"written": [0], "label": [-2], "needs": [-2], "forecast": [-3], "ever": [-2]}
+        for order in list(itertools.permutations(calls))[::1009]:
+            places = {name: place for place, name in enumerate(order)}
+            rows = dict(zip(order, ask(*[calls[name] for name in order])))
+            self.assertEqual(rows["read"], [0, 2, 2, 0])
+            for name in unread:
+                is_read = places["read"] < places[name]
+                self.assertEqual(rows[name], read_told[name] if is_read else unread[name], order)
+            self.assertEqual(rows["begin"], [0, 1, 0] if places["read"] < places["begin"] else [1, 0], order)
+            if places["read"] < places["begin"] < places["ends"]:
+                self.assertEqual(rows["ends"], [0, 1, 1], order)
+            elif places["begin"] < places["ends"] < places["read"]:
+                self.assertEqual(rows["ends"], [-2], order)
+            else:
+                self.assertEqual(rows["ends"], [-4], order)
+
     def test_sixty_calls(self):
         rows = ask(read(TEXT), *[begin(number % 3) for number in range(59)])
         self.assertEqual(len(rows), 60)
@@ -57,7 +95,8 @@ class Layout(unittest.TestCase):
             self.assertEqual(rows[place + 2], [0, 1, 0])
 
     def test_answers_are_whole_numbers_in_a_list(self):
-        answered = answers(joined(read(TEXT), WRITTEN, label(0), needs(2), begin(0), begin(1), begin(9)))
+        answered = answers(joined(read(TEXT), WRITTEN, label(0), needs(2), begin(0), begin(1), begin(9), ends(0, 1), ends(1, 0),
+                                  STAND, forecast(1, 5), forecast(9, 0), ever(2), ever(9), read("job a\nwhen bad"), ever(0)))
         self.assertIs(type(answered), list)
         self.assertEqual({type(number) for number in answered}, {int})
 
@@ -74,7 +113,8 @@ class Guarded(list):
 
 class NothingKept(unittest.TestCase):
     def test_what_is_handed_in_is_not_changed(self):
-        row = joined(read(TEXT), WRITTEN, read("foo"), label(0), needs(2), begin(0), begin(1), begin(9))
+        row = joined(STAND, ends(0, 0), read(TEXT), WRITTEN, read("foo"), label(0), needs(2), begin(0), begin(1), begin(9),
+                     ends(0, 1), ends(1, 0), ends(1, 0), STAND, forecast(1, 5), forecast(2, 8), ever(2), ever(3), ever(0))
         before = list(row)
         answered = answers(row)
         self.assertEqual(row, before)
@@ -82,9 +122,11 @@ class NothingKept(unittest.TestCase):
         self.assertEqual(answers(Guarded(row)), answered)
 
     def test_each_time_is_the_first(self):
-        row = joined(WRITTEN, label(0), begin(1), read(TEXT), WRITTEN, needs(2), begin(1))
+        row = joined(STAND, WRITTEN, label(0), begin(1), forecast(0, 1), ever(0), read(TEXT), WRITTEN, needs(2), STAND, begin(1),
+                     ends(1, 1), STAND)
         first = answers(list(row))
-        for other in ([1], joined(read("job z\nsoft\n"), begin(0)), joined(read("job z\nneeds z"))):
+        for other in ([1], joined(read("job z\nsoft\n"), begin(0), ends(0, 0)), joined(read("job z\nneeds z")),
+                      joined(read(TEXT), begin(1), ends(1, 0), ends(0, 1))):
             answers(other)
             self.assertEqual(answers(list(row)), first)
         self.assertEqual(answers([1, 4, 0]), [1, 0, 2, 1, 0])
